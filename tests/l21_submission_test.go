@@ -1047,7 +1047,8 @@ func TestP132Letters(t *testing.T) {
 	}
 }
 
-func TestP132LettersThatAreInvalid(t *testing.T) {
+// notLetters have one fault each, or lack all of something.
+func notLetters() []impl.Letter {
 	list := []impl.Letter{{}, {From: "amy"}, {To: []string{"amy"}}, {From: "amy", Text: "x"}, {From: "amy", To: []string{}}}
 	for _, to := range notReceivers() {
 		list = append(list, impl.Letter{From: "amy", To: to, Text: "hello\n"})
@@ -1058,7 +1059,11 @@ func TestP132LettersThatAreInvalid(t *testing.T) {
 	for _, text := range append(longTexts(), strings.Repeat("x", 65536), strings.Repeat("x", 65556), strings.Repeat("x", 256)) {
 		list = append(list, impl.Letter{From: "amy", To: []string{"bob"}, Text: text}, impl.Letter{From: "bob", To: []string{"bob", "amy", "eve"}, Text: text})
 	}
-	for _, x := range list {
+	return list
+}
+
+func TestP132LettersThatAreInvalid(t *testing.T) {
+	for _, x := range notLetters() {
 		if impl.LetterValid(x) || isLetter(x) {
 			t.Errorf("LetterValid(%.200q) holds", []any{x})
 		}
