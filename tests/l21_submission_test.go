@@ -1441,6 +1441,12 @@ func TestGoroutinesOfRunsAreJoined(t *testing.T) {
 	for range 200 {
 		impl.SubmissionRun(hostUsers(), "host.org", slices.Repeat([]string{"QUIT"}, 100))
 	}
+	expectGoroutines(t, before)
+}
+
+// expectGoroutines checks that there are no more goroutines than before; one that was joined may take a while to end.
+func expectGoroutines(t *testing.T, before int) {
+	t.Helper()
 	for range 1000000 {
 		if runtime.NumGoroutine() <= before {
 			return
