@@ -2116,7 +2116,32 @@ func sharedHost() impl.Host {
 	return h
 }
 
-// Each nested list of a result is overwritten, up to its capacity, in another way; none of the others changes then.
+// haveSharedParts overwrites each nested list of a host, up to its capacity, in another way, and reports whether others
+// have changed then.
+func haveSharedParts(h impl.Host) bool {
+	for i, f := range h.Folders {
+		for at := range whole(f.Grants) {
+			whole(f.Grants)[at].Rights = 1000 + i
+		}
+		for at := range whole(f.Box.Mail) {
+			whole(f.Box.Mail)[at].Uid = 1000 + i
+		}
+	}
+	for i, item := range h.Queue.Items {
+		for at := range whole(item.Left) {
+			whole(item.Left)[at] = strconv.Itoa(i)
+		}
+	}
+	shared := false
+	for i, f := range h.Folders {
+		shared = shared || slices.ContainsFunc(whole(f.Grants), func(g impl.Grant) bool { return g.Rights != 1000+i }) || slices.ContainsFunc(whole(f.Box.Mail), func(m impl.Mail) bool { return m.Uid != 1000+i })
+	}
+	for i, item := range h.Queue.Items {
+		shared = shared || slices.ContainsFunc(whole(item.Left), func(name string) bool { return name != strconv.Itoa(i) })
+	}
+	return shared
+}
+
 func TestPartsOfAHostShareNoMemory(t *testing.T) {
 	list := hostArgumentLists()
 	for _, user := range []string{"amy", "bob"} {
@@ -2124,28 +2149,7 @@ func TestPartsOfAHostShareNoMemory(t *testing.T) {
 	}
 	for name, call := range hostCalls {
 		for _, a := range list {
-			h := call(a)
-			for i, f := range h.Folders {
-				for at := range whole(f.Grants) {
-					whole(f.Grants)[at].Rights = 1000 + i
-				}
-				for at := range whole(f.Box.Mail) {
-					whole(f.Box.Mail)[at].Uid = 1000 + i
-				}
-			}
-			for i, item := range h.Queue.Items {
-				for at := range whole(item.Left) {
-					whole(item.Left)[at] = strconv.Itoa(i)
-				}
-			}
-			shared := false
-			for i, f := range h.Folders {
-				shared = shared || slices.ContainsFunc(whole(f.Grants), func(g impl.Grant) bool { return g.Rights != 1000+i }) || slices.ContainsFunc(whole(f.Box.Mail), func(m impl.Mail) bool { return m.Uid != 1000+i })
-			}
-			for i, item := range h.Queue.Items {
-				shared = shared || slices.ContainsFunc(whole(item.Left), func(name string) bool { return name != strconv.Itoa(i) })
-			}
-			if shared {
+			if haveSharedParts(call(a)) {
 				t.Errorf("the parts of a result of %s for %.900q share memory", name, []any{a.h})
 			}
 		}
